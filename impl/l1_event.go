@@ -94,6 +94,17 @@ func allOf[T any](list []T, has func(T) bool) bool {
 	return true
 }
 
+// indicesOf returns the indices of the elements of a list that have a property.
+func indicesOf[T any](list []T, has func(T) bool) []int {
+	var indices []int
+	for i, x := range list {
+		if has(x) {
+			indices = append(indices, i)
+		}
+	}
+	return indices
+}
+
 // validEvents reports whether a list of events is valid, in any order.
 func validEvents(list []Event) bool {
 	return len(list) <= MaxEvents && allOf(list, ValidEvent)

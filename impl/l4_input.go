@@ -16,13 +16,7 @@ func IdleInputs(list []Input, now int, idle int) []int {
 	if !validWait(list, now, idle) {
 		return nil
 	}
-	var numbers []int
-	for i, in := range list {
-		if in.idleAt(now, idle) {
-			numbers = append(numbers, i)
-		}
-	}
-	return numbers
+	return indicesOf(list, func(in Input) bool { return in.idleAt(now, idle) })
 }
 
 // MergeMarks returns the watermark of inputs.
