@@ -94,6 +94,16 @@ func allOf[T any](list []T, has func(T) bool) bool {
 	return true
 }
 
+// ascending reports whether each element of a list is before the next one.
+func ascending[T any](list []T, compare func(T, T) int) bool {
+	for i := 1; i < len(list); i++ {
+		if compare(list[i-1], list[i]) >= 0 {
+			return false
+		}
+	}
+	return true
+}
+
 // indicesOf returns the indices of the elements of a list that have a property.
 func indicesOf[T any](list []T, has func(T) bool) []int {
 	var indices []int
