@@ -166,5 +166,57 @@ func spoil[T any](list []T, with T) {
 	}
 }
 
+// expectLists fails the test if lists are not as expected.
+func expectLists[T comparable](t *testing.T, what string, got [][]T, want [][]T) {
+	t.Helper()
+	if !slices.EqualFunc(got, want, slices.Equal) {
+		t.Fatalf("%s = %v, not %v", what, got, want)
+	}
+}
+
+// expectApart fails the test if two lists share memory. It overwrites them.
+func expectApart[T comparable](t *testing.T, what string, lists [][]T, with T) {
+	t.Helper()
+	for i := range lists {
+		before := make([][]T, len(lists))
+		for k, list := range lists {
+			before[k] = slices.Clone(list[:cap(list)])
+		}
+		spoil(lists[i], with)
+		for k, list := range lists {
+			if k != i && !slices.Equal(list[:cap(list)], before[k]) {
+				t.Fatalf("%s: the lists %d and %d share memory", what, i, k)
+			}
+		}
+	}
+}
+
+// guards is lists with spare capacity whose memory is compared with a copy.
+type guards[T comparable] struct {
+	lists [][]T
+	each  []guard[T]
+}
+
+// guardedLists returns guards for copies of lists, with one more list behind their end.
+func guardedLists[T comparable](lists [][]T, more T) guards[T] {
+	var g guards[T]
+	for _, list := range append(slices.Clone(lists), []T{more}) {
+		g.each = append(g.each, guarded(list, more))
+		g.lists = append(g.lists, g.each[len(g.each)-1].list)
+	}
+	g.lists = g.lists[:len(lists)]
+	return g
+}
+
+// check fails the test if one of the lists, or what is behind them, has changed.
+func (g guards[T]) check(t *testing.T, what string) {
+	t.Helper()
+	for i, list := range g.lists[:len(g.each)] {
+		expectIs(t, what+": the length of a list that was an argument", len(list), len(g.each[i].list))
+		expectTrue(t, what+": the lists of an argument stay in their places", &list[:1][0] == &g.each[i].list[:1][0])
+		g.each[i].check(t, what)
+	}
+}
+
 // extremes are numbers that no limit allows.
 var extremes = []int{math.MinInt, math.MinInt + 1, math.MaxInt - 1, math.MaxInt}
