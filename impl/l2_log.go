@@ -66,11 +66,16 @@ func (l Log) valid() bool {
 
 // clone returns the same log in new memory.
 func (l Log) clone() Log {
-	parts := make([][]Event, len(l.Parts))
-	for i, part := range l.Parts {
-		parts[i] = slices.Clone(part)
+	return Log{Parts: cloneLists(l.Parts)}
+}
+
+// cloneLists returns the same lists in new memory.
+func cloneLists[T any](lists [][]T) [][]T {
+	clones := make([][]T, len(lists))
+	for i, list := range lists {
+		clones[i] = slices.Clone(list)
 	}
-	return Log{Parts: parts}
+	return clones
 }
 
 // hasOffsets reports whether a log is valid and offsets are valid for it.
